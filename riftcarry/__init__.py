@@ -1,0 +1,1 @@
+"""Riftcarry: packs riffled, columns added."""

@@ -1,6 +1,6 @@
-"""Orders for the tests to go through."""
+"""Orders, marks and words for the tests to go through."""
 
-from itertools import permutations
+from itertools import permutations, product
 
 
 def all_orders(n):
@@ -30,3 +30,66 @@ def sample_orders():
     for n in range(7, 61):
         orders.extend(large_orders(n))
     return orders
+
+
+def all_marks(heaps):
+    return [list(marks) for marks in product([False, True], repeat=heaps)]
+
+
+def all_words(heaps, n):
+    return [list(word) for word in product(range(heaps), repeat=n)]
+
+
+def mixed_word(heaps, n, seed=1):
+    """A word without a plain pattern."""
+    word = []
+    state = seed * 7919 + heaps * 31 + n
+    for place in range(n):
+        state = (state * 1103 + 12345) % 65537
+        word.append(state % heaps)
+    return word
+
+
+def mixed_marks(heaps, seed=1):
+    return [part == 1 for part in mixed_word(2, heaps, seed + 5)]
+
+
+def sample_marks(heaps):
+    """All plain, all turned, by turns, and without a pattern."""
+    by_turns = [heap % 2 == 1 for heap in range(heaps)]
+    return [[False] * heaps, [True] * heaps, by_turns, mixed_marks(heaps)]
+
+
+def sample_words(heaps, n):
+    """One heap alone, in both ends; all heaps in turn, up and down; without a pattern."""
+    upward = [place * heaps // n for place in range(n)]
+    by_turns = [place % heaps for place in range(n)]
+    return [[0] * n, [heaps - 1] * n, upward, upward[::-1], by_turns, mixed_word(heaps, n), mixed_word(heaps, n, 2)]
+
+
+def riffled_by_hand(order, marks, word):
+    """A riffle done heap by heap: cut, turned over, laid from the tops."""
+    left = list(order)
+    heaps = []
+    for number, turned in enumerate(marks):
+        heap = []
+        for part in word:
+            if part == number:
+                heap.append(left.pop(0))
+        if turned:
+            heap = heap[::-1]
+        heaps.append(heap)
+    return [heaps[part].pop(0) for part in word]
+
+
+WRONG_PARTS = [-1, -2, -10 ** 299, 10 ** 299, True, False, None, "", "0", "1", "p"]
+
+
+def wrong_words(heaps, n):
+    """Lists that are no words for so many heaps and cards: one part wrong, at each end and between; other lengths."""
+    good = mixed_word(heaps, n)
+    words = [good[1:], good[:-1], good + [0], [0] + good, good + [None]]
+    for part in [*WRONG_PARTS, heaps, heaps + 1]:
+        for place in sorted({0, n // 2, n - 1}):
+            words.append(good[:place] + [part] + good[place + 1:])
+    return words

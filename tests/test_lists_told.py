@@ -1,11 +1,17 @@
 """Nothing handed in is changed or kept, and every list told is a new one."""
 
 import unittest
+from copy import deepcopy
 
 from riftcarry.choosing import by_falls
+from riftcarry.errors import RiftError
+from riftcarry.joining import joined, joined_marks, parted
 from riftcarry.orders import falls, first, is_order, laid, places, runs
+from riftcarry.packs import Pack
+from riftcarry.riffles import is_word, riffled, sizes, undone
+from riftcarry.ways import how_many, number_of, plain, way
 from riftcarry.wholes import is_whole
-from tests.samples import large_orders
+from tests.samples import large_orders, mixed, mixed_marks, mixed_word
 
 
 class HandedInTest(unittest.TestCase):
@@ -94,6 +100,176 @@ class ToldTest(unittest.TestCase):
         told.clear()
         self.assertEqual(by_falls(3), [1, 4, 1])
         self.assertEqual(by_falls(5), [1, 26, 66, 26, 1])
+
+
+def lists_in(thing):
+    """All lists in a thing, those within lists and tuples too."""
+    if not isinstance(thing, (list, tuple)):
+        return []
+    found = [thing] if isinstance(thing, list) else []
+    for part in thing:
+        found.extend(lists_in(part))
+    return found
+
+
+def asked_of_riffles():
+    """Each function with what may be handed in, all of it right."""
+    asked = []
+    for n, a, b in [(1, 1, 1), (1, 2, 2), (3, 1, 1), (3, 2, 3), (60, 1, 1), (60, 20, 20)]:
+        order = mixed(n)
+        marks = mixed_marks(a)
+        others = mixed_marks(b, 2)
+        word = mixed_word(a, n)
+        more = mixed_word(b, n, 2)
+        come = riffled(first(n), marks, word)
+        both = joined(marks, word, others, more)
+        asked.extend([
+            (is_word, [marks, word, n]), (sizes, [marks, word]), (riffled, [order, marks, word]),
+            (undone, [order, marks, word]), (how_many, [come, marks]), (way, [come, marks, 0]),
+            (number_of, [come, marks, word]), (plain, [order, a]), (joined_marks, [marks, others]),
+            (joined, [marks, word, others, more]), (parted, [marks, others, both]),
+        ])
+    return asked
+
+
+REFUSED = [
+    (sizes, [[False], [0, 1]]), (riffled, [[1, 0], [False], [0, 1]]), (undone, [[1, 0], [True], [0]]),
+    (way, [[1, 0], [False], 0]), (number_of, [[1, 0], [False], [0, 0]]), (number_of, [[1, 0], [False], [0, None]]),
+    (joined, [[False], [0, 0], [True], [0]]), (joined, [[False], [0, "0"], [True], [0, 0]]),
+    (parted, [[False], [True, False], [0, 2]]),
+]
+
+
+class RifflesAskedTest(unittest.TestCase):
+    def test_handed_in_stays_as_it_was(self):
+        for ask, handed_in in asked_of_riffles():
+            before = repr(handed_in)
+            ask(*handed_in)
+            self.assertEqual(repr(handed_in), before, ask.__name__)
+
+    def test_refused_stays_as_it_was(self):
+        for ask, handed_in in REFUSED:
+            before = repr(handed_in)
+            with self.assertRaises(RiftError):
+                ask(*handed_in)
+            self.assertEqual(repr(handed_in), before, ask.__name__)
+
+    def test_told_lists_are_new(self):
+        for ask, handed_in in asked_of_riffles():
+            told = lists_in(ask(*handed_in)) + lists_in(ask(*handed_in))
+            self.assertEqual(len({id(part) for part in told}), len(told), ask.__name__)
+            for part in lists_in(handed_in):
+                self.assertNotIn(id(part), [id(other) for other in told], ask.__name__)
+
+    def test_changed_lists_change_nothing(self):
+        for ask, handed_in in asked_of_riffles():
+            own = deepcopy(handed_in)
+            told = ask(*own)
+            before = deepcopy(told)
+            for part in lists_in(own):
+                part.clear()
+            self.assertEqual(told, before, ask.__name__)
+            for part in lists_in(told):
+                part.append("changed")
+            self.assertEqual(ask(*handed_in), before, ask.__name__)
+
+    def test_one_list_handed_in_twice(self):
+        marks = [False, True]
+        word = [1, 0]
+        self.assertEqual(riffled(word, marks, word), [0, 1])
+        self.assertEqual(undone(word, marks, word), [0, 1])
+        self.assertEqual(joined_marks(marks, marks), [False, True, False, True])
+        self.assertEqual(joined(marks, word, marks, word), [1, 3])
+        self.assertEqual(parted(marks, marks, word), ([0, 0], [1, 0]))
+        self.assertEqual((marks, word), ([False, True], [1, 0]))
+
+
+class PackTest(unittest.TestCase):
+    def told(self, pack):
+        return (pack.order(), pack.done(), pack.whole())
+
+    def riffled_pack(self):
+        pack = Pack(3)
+        pack.riffle([False, True], [1, 0, 1])
+        pack.riffle([True, False], [0, 1, 0])
+        return pack
+
+    def test_handed_in_stays_as_it_was(self):
+        for n, heaps in [(1, 1), (3, 2), (60, 400)]:
+            marks = mixed_marks(heaps)
+            word = mixed_word(heaps, n)
+            before = (list(marks), list(word))
+            pack = Pack(n)
+            pack.riffle(marks, word)
+            self.told(pack)
+            pack.undo()
+            self.assertEqual((marks, word), before)
+
+    def test_refused_stays_as_it_was(self):
+        pack = Pack(2)
+        for marks, word in [([0, 1], [0, 1]), ([False], [0, 1]), ([True, False], [0, True]), ([], [])]:
+            before = repr((marks, word))
+            with self.assertRaises(RiftError):
+                pack.riffle(marks, word)
+            self.assertEqual(repr((marks, word)), before)
+
+    def test_handed_in_is_not_kept(self):
+        marks = [False, True]
+        word = [1, 0, 1]
+        pack = Pack(3)
+        pack.riffle(marks, word)
+        before = self.told(pack)
+        marks[0] = True
+        marks.append(False)
+        word.clear()
+        self.assertEqual(self.told(pack), before)
+        self.assertEqual(pack.undo(), [0, 1, 2])
+
+    def test_told_is_not_kept(self):
+        tells = [Pack.order, Pack.done, Pack.whole, Pack.undo, lambda pack: pack.riffle([True], [0, 0, 0])]
+        for tell in tells:
+            pack = self.riffled_pack()
+            told = tell(pack)
+            before = self.told(pack)
+            for part in lists_in(told):
+                part.clear()
+            self.assertEqual(self.told(pack), before)
+
+    def test_told_of_a_new_pack_is_not_kept(self):
+        for tell in [Pack.order, Pack.done, Pack.whole]:
+            pack = Pack(3)
+            for part in lists_in(tell(pack)):
+                part.append("changed")
+            self.assertEqual(self.told(pack), ([0, 1, 2], [], ([False], [0, 0, 0])))
+            self.assertEqual(self.told(Pack(3)), ([0, 1, 2], [], ([False], [0, 0, 0])))
+
+    def test_told_lists_are_new(self):
+        for pack in [Pack(1), Pack(3), self.riffled_pack()]:
+            told = lists_in(self.told(pack)) + lists_in(self.told(pack))
+            self.assertEqual(len({id(part) for part in told}), len(told))
+
+    def test_one_list_riffled_by_twice(self):
+        marks = [True, False]
+        word = [0, 1, 0]
+        pack = Pack(3)
+        pack.riffle(marks, word)
+        pack.riffle(marks, word)
+        pack.done()[0][0].clear()
+        told = lists_in(pack.done())
+        self.assertEqual(len({id(part) for part in told}), 5)
+        self.assertEqual(pack.done(), [(marks, word), (marks, word)])
+
+    def test_done_and_asked_later_changes_nothing_told(self):
+        pack = Pack(3)
+        steps = [pack.order(), pack.done(), pack.whole(), pack.riffle([False, True], [1, 0, 1]), pack.order(),
+                 pack.done(), pack.whole()]
+        before = deepcopy(steps)
+        pack.riffle([True], [0, 0, 0])
+        self.told(pack)
+        pack.undo()
+        pack.undo()
+        pack.riffle([False], [0, 0, 0])
+        self.assertEqual(steps, before)
 
 
 if __name__ == "__main__":

@@ -82,6 +82,10 @@ def riffled_by_hand(order, marks, word):
     return [heaps[part].pop(0) for part in word]
 
 
+def falls_by_hand(order):
+    return sum(order[p + 1] < order[p] for p in range(len(order) - 1))
+
+
 WRONG_PARTS = [-1, -2, -10 ** 299, 10 ** 299, True, False, None, "", "0", "1", "p"]
 
 

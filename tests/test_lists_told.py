@@ -5,10 +5,14 @@ from copy import deepcopy
 
 from riftcarry.choosing import by_falls
 from riftcarry.errors import RiftError
+from riftcarry.fractions import fraction, shares
 from riftcarry.joining import joined, joined_marks, parted
+from riftcarry.listing import falls_from
 from riftcarry.orders import falls, first, is_order, laid, places, runs
 from riftcarry.packs import Pack
 from riftcarry.riffles import is_word, riffled, sizes, undone
+from riftcarry.tables import carries, falls_table, multiplied, product
+from riftcarry.turned import by_first, by_second, rests
 from riftcarry.ways import how_many, number_of, plain, way
 from riftcarry.wholes import is_whole
 from tests.samples import large_orders, mixed, mixed_marks, mixed_word
@@ -132,17 +136,42 @@ def asked_of_riffles():
     return asked
 
 
+def asked_of_turned_heaps():
+    return [(ask, [order]) for ask in [by_second, by_first, rests] for n in [1, 2, 5, 60] for order in large_orders(n)]
+
+
+def asked_of_tables():
+    asked = [(fraction, [6, -4])]
+    for m in [1, 2, 3, 12]:
+        # The table of one heap, and a row that picks one list, are where a list handed in could be told as it is.
+        for b in [1, 2, 10 ** 12]:
+            one = carries(m, b)
+            other = carries(m, 1)
+            asked.extend([
+                (carries, [m, b]), (falls_table, [m, b]), (product, [one, other]), (product, [other, one]),
+                (multiplied, [by_falls(m), one]), (multiplied, [by_falls(m), other]), (multiplied, [one[0], other]),
+                (multiplied, [[1] + [0] * (m - 1), one]), (shares, [one, 1]), (shares, [one, b]),
+            ])
+    for m, b in [(1, 1), (1, 4096), (3, 2), (6, 1), (6, 4)]:
+        asked.extend([(falls_from, [order, b]) for order in large_orders(m)])
+    return asked
+
+
+def asked_of_all():
+    return asked_of_riffles() + asked_of_turned_heaps() + asked_of_tables()
+
+
 REFUSED = [
     (sizes, [[False], [0, 1]]), (riffled, [[1, 0], [False], [0, 1]]), (undone, [[1, 0], [True], [0]]),
     (way, [[1, 0], [False], 0]), (number_of, [[1, 0], [False], [0, 0]]), (number_of, [[1, 0], [False], [0, None]]),
     (joined, [[False], [0, 0], [True], [0]]), (joined, [[False], [0, "0"], [True], [0, 0]]),
-    (parted, [[False], [True, False], [0, 2]]),
+    (parted, [[False], [True, False], [0, 2]]), (falls_from, [[2, 0, 1, 3], 9]), (falls_from, [[0], 10 ** 12]),
 ]
 
 
-class RifflesAskedTest(unittest.TestCase):
+class AskedTest(unittest.TestCase):
     def test_handed_in_stays_as_it_was(self):
-        for ask, handed_in in asked_of_riffles():
+        for ask, handed_in in asked_of_all():
             before = repr(handed_in)
             ask(*handed_in)
             self.assertEqual(repr(handed_in), before, ask.__name__)
@@ -155,14 +184,14 @@ class RifflesAskedTest(unittest.TestCase):
             self.assertEqual(repr(handed_in), before, ask.__name__)
 
     def test_told_lists_are_new(self):
-        for ask, handed_in in asked_of_riffles():
+        for ask, handed_in in asked_of_all():
             told = lists_in(ask(*handed_in)) + lists_in(ask(*handed_in))
             self.assertEqual(len({id(part) for part in told}), len(told), ask.__name__)
             for part in lists_in(handed_in):
                 self.assertNotIn(id(part), [id(other) for other in told], ask.__name__)
 
     def test_changed_lists_change_nothing(self):
-        for ask, handed_in in asked_of_riffles():
+        for ask, handed_in in asked_of_all():
             own = deepcopy(handed_in)
             told = ask(*own)
             before = deepcopy(told)
@@ -182,6 +211,19 @@ class RifflesAskedTest(unittest.TestCase):
         self.assertEqual(joined(marks, word, marks, word), [1, 3])
         self.assertEqual(parted(marks, marks, word), ([0, 0], [1, 0]))
         self.assertEqual((marks, word), ([False, True], [1, 0]))
+
+    def test_one_table_handed_in_twice(self):
+        table = [[1, 2], [3, 4]]
+        self.assertEqual(product(table, table), [[7, 10], [15, 22]])
+        self.assertEqual(multiplied(table[1], table), [15, 22])
+        self.assertEqual(table, [[1, 2], [3, 4]])
+
+    def test_one_list_twice_within_a_table(self):
+        row = [1, 2]
+        for told in [product([row, row], [row, row]), shares([row, row], 2)]:
+            self.assertIsNot(told[0], told[1])
+            self.assertEqual(told[0], told[1])
+        self.assertEqual(row, [1, 2])
 
 
 class PackTest(unittest.TestCase):

@@ -3,13 +3,14 @@
 from riftcarry.errors import TooMany
 from riftcarry.orders import falls
 from riftcarry.riffles import riffled
+from riftcarry.wholes import power
 
 MOST_WORDS = 4096
 
 
 def falls_from(order, b):
     m = len(order)
-    if how_many_words(m, b) > MOST_WORDS:
+    if power(b, m) > MOST_WORDS:
         raise TooMany("there are too many words to go through")
     marks = [False] * m
     counts = [0] * m
@@ -17,13 +18,6 @@ def falls_from(order, b):
         reached = falls(riffled(order, marks, without_empty_heaps(word)))
         counts[reached] = counts[reached] + 1
     return counts
-
-
-def how_many_words(m, b):
-    count = 1
-    for place in range(m):
-        count = count * b
-    return count
 
 
 def all_words(m, b):

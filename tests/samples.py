@@ -2,6 +2,10 @@
 
 from itertools import permutations, product
 
+from riftcarry.errors import NoFigures, NoMarks, NoPack, NoRiffle, NoText, NoWay, RiftError, TooMany
+
+REFUSALS = [NoPack, NoMarks, NoRiffle, NoWay, TooMany, NoFigures, NoText]
+
 
 def all_orders(n):
     return [list(cards) for cards in permutations(range(n))]
@@ -97,3 +101,27 @@ def wrong_words(heaps, n):
         for place in sorted({0, n // 2, n - 1}):
             words.append(good[:place] + [part] + good[place + 1:])
     return words
+
+
+# A nought ahead, a sign, a blank, no signs at all, other signs, thirteen figures and more.
+BAD_NUMBERS = [
+    "", " ", "00", "01", "007", "0" * 12, "0" * 13, "000000000001", "+1", "-1", "+0", "-0", "--1", " 1", "1 ", "1 2",
+    "1,000", "1.0", "1.", ".5", "1_0", "1e3", "0x1", "0b1", "1/1", "x", "p", "t", "one", "True", "None", "1a", "a1",
+    "O", "1000000000000", "9999999999999", "1" * 60, "9" * 2000, "0" * 2000,
+]
+
+# Great letters, other signs, a blank, no signs at all, 401 signs and more.
+BAD_MARKS = [
+    "", " ", "P", "T", "pT", "Pt", "PT", " p", "p ", "p t", "  ", "q", "x", "pq", "tx", "0", "1", "01", "10", "p,t",
+    "-p", "p-", "plain", "turned", "True", "False", "p" * 401, "t" * 401, "pt" * 201, "p" * 2000, "p" * 400 + " ",
+    "p" * 200 + "P" + "p" * 199,
+]
+
+
+def check_refused(test, refusal, ask, *handed_in):
+    """Refused by just this refusal, under RiftError and ValueError, and by none of the others."""
+    with test.assertRaises(refusal, msg=handed_in) as taken:
+        ask(*handed_in)
+    test.assertIsInstance(taken.exception, RiftError)
+    test.assertIsInstance(taken.exception, ValueError)
+    test.assertEqual([other for other in REFUSALS if isinstance(taken.exception, other)], [refusal])

@@ -1,8 +1,7 @@
 import unittest
 
-from riftcarry.errors import NoFigures, NoMarks, NoPack, NoRiffle, NoText, NoWay, RiftError, TooMany
-
-REFUSALS = [NoPack, NoMarks, NoRiffle, NoWay, TooMany, NoFigures, NoText]
+from riftcarry.errors import RiftError
+from tests.samples import REFUSALS
 
 
 class ErrorsTest(unittest.TestCase):

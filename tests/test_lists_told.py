@@ -3,8 +3,11 @@
 import unittest
 from copy import deepcopy
 
-from riftcarry.choosing import by_falls
+from riftcarry.choosing import by_falls, choose
+from riftcarry.columns import added, carried
+from riftcarry.desk import Desk
 from riftcarry.errors import RiftError
+from riftcarry.even import chance, far
 from riftcarry.fractions import fraction, shares
 from riftcarry.joining import joined, joined_marks, parted
 from riftcarry.listing import falls_from
@@ -12,6 +15,7 @@ from riftcarry.orders import falls, first, is_order, laid, places, runs
 from riftcarry.packs import Pack
 from riftcarry.riffles import is_word, riffled, sizes, undone
 from riftcarry.tables import carries, falls_table, multiplied, product
+from riftcarry.texts import read_marks, read_number, show_marks
 from riftcarry.turned import by_first, by_second, rests
 from riftcarry.ways import how_many, number_of, plain, way
 from riftcarry.wholes import is_whole
@@ -157,8 +161,41 @@ def asked_of_tables():
     return asked
 
 
+def asked_of_columns():
+    asked = []
+    for count in [1, 2, 60]:
+        for columns in [0, 1, 3, 60]:
+            # Of one number, and of noughts beside it, the sum has just the figures that were handed in.
+            number = mixed_word(7, columns, count)
+            noughts = [[0] * columns for place in range(count - 1)]
+            asked.extend([(added, [[number] + noughts, 7]), (added, [noughts + [number], 10 ** 30]),
+                          (added, [[number] * count, 10]), (added, [[[1] * columns for place in range(count)], 2])])
+    for m in [1, 2, 12]:
+        # Where there are no columns, or m is 1, a row that is kept somewhere could be told as it is.
+        asked.extend([(carried, [m, b, columns]) for b in [2, 60] for columns in [0, 1, 2, 20]])
+    return asked
+
+
+def asked_of_orders():
+    asked = [(choose, [5, 2]), (first, [1]), (first, [60]), (by_falls, [1]), (by_falls, [60])]
+    for n in [1, 2, 5, 60]:
+        for order in large_orders(n):
+            asked.extend([(is_whole, [order]), (is_order, [order]), (places, [order]), (falls, [order]),
+                          (runs, [order]), (laid, [order, first(n)]), (laid, [first(n), order])])
+    return asked
+
+
+def asked_of_the_rest():
+    asked = [(chance, [3, 2, 1]), (far, [1, 2, 3]), (far, [20, 60, 20]), (read_number, ["7"])]
+    for heaps in [1, 2, 400]:
+        marks = mixed_marks(heaps)
+        asked.extend([(show_marks, [marks]), (read_marks, [show_marks(marks)])])
+    return asked
+
+
 def asked_of_all():
-    return asked_of_riffles() + asked_of_turned_heaps() + asked_of_tables()
+    return (asked_of_orders() + asked_of_riffles() + asked_of_turned_heaps() + asked_of_tables() + asked_of_columns()
+            + asked_of_the_rest())
 
 
 REFUSED = [
@@ -166,6 +203,8 @@ REFUSED = [
     (way, [[1, 0], [False], 0]), (number_of, [[1, 0], [False], [0, 0]]), (number_of, [[1, 0], [False], [0, None]]),
     (joined, [[False], [0, 0], [True], [0]]), (joined, [[False], [0, "0"], [True], [0, 0]]),
     (parted, [[False], [True, False], [0, 2]]), (falls_from, [[2, 0, 1, 3], 9]), (falls_from, [[0], 10 ** 12]),
+    (added, [[], 10]), (added, [[[1, 2], [3]], 10]), (added, [[[], [3]], 10]), (added, [[[1, 2], [3, 10]], 10]),
+    (added, [[[1, True]], 10]), (added, [[[None], ["1"]], 10]), (added, [[[-1, 0], [0, 0]], 2]),
 ]
 
 
@@ -224,6 +263,34 @@ class AskedTest(unittest.TestCase):
             self.assertIsNot(told[0], told[1])
             self.assertEqual(told[0], told[1])
         self.assertEqual(row, [1, 2])
+
+
+    def test_one_number_several_times(self):
+        number = [9, 4]
+        numbers = [number, number, number]
+        figures, carried_on = added(numbers, 10)
+        self.assertEqual((figures, carried_on), ([7, 4], [2, 1]))
+        figures.clear()
+        self.assertEqual((number, carried_on), ([9, 4], [2, 1]))
+        number[0] = 0
+        self.assertEqual(carried_on, [2, 1])
+        self.assertEqual(added(numbers, 10), ([0, 2], [0, 1]))
+        self.assertEqual(len(numbers), 3)
+
+    def test_rows_of_no_columns_are_told_anew(self):
+        told = carried(3, 2, 0)
+        told[0] = 7
+        self.assertEqual(carried(3, 2, 0), [1, 0, 0])
+        self.assertEqual(carried(3, 2, 1), [4, 4, 0])
+
+    def test_desks_keep_nothing_of_the_modules_lists(self):
+        desk = Desk()
+        desk.say("pack 3")
+        desk.say("riffle pt 1 0 1")
+        for ask, handed_in in asked_of_all():
+            for part in lists_in(ask(*deepcopy(handed_in))):
+                part.clear()
+        self.assertEqual([desk.say("order"), desk.say("whole"), desk.say("undo")], ["2 0 1", "pt 1 0 1", "0 1 2"])
 
 
 class PackTest(unittest.TestCase):

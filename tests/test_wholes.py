@@ -1,6 +1,6 @@
 import unittest
 
-from riftcarry.wholes import is_whole
+from riftcarry.wholes import is_whole, power
 
 
 class IsWholeTest(unittest.TestCase):
@@ -25,6 +25,13 @@ class IsWholeTest(unittest.TestCase):
         for thing in [[], [0], [1, 2], [[3]], [None], (), (0,), (1, 2), ((3,),), (True,)]:
             with self.subTest(thing=thing):
                 self.assertIs(is_whole(thing), False)
+
+
+class PowerTest(unittest.TestCase):
+    def test_powers(self):
+        for base in [0, 1, 2, 7, 60, 10 ** 12, -3]:
+            for times in [0, 1, 2, 3, 20, 60]:
+                self.assertEqual(power(base, times), base ** times)
 
 
 if __name__ == "__main__":
